@@ -42,7 +42,11 @@ func newSource(t *testing.T) source {
 func sourceOf(texts []string) (source, error) {
 	src := source{
 		files: token.NewFileSet(),
-		info:  &types.Info{Uses: map[*ast.Ident]types.Object{}, Types: map[ast.Expr]types.TypeAndValue{}},
+		info: &types.Info{
+			Defs:  map[*ast.Ident]types.Object{},
+			Uses:  map[*ast.Ident]types.Object{},
+			Types: map[ast.Expr]types.TypeAndValue{},
+		},
 	}
 	for _, text := range texts {
 		tree, err := parser.ParseFile(src.files, "", text, parser.SkipObjectResolution)
@@ -324,4 +328,112 @@ func TestWayOfProgramsIsATable(t *testing.T) {
 		}
 	}
 	t.Error("there is no table by which all of it goes that tells what each instruction uses")
+}
+
+// writesToArguments returns where a function writes into what an argument leads to, a line each.
+func writesToArguments(src source) []string {
+	out := []string{}
+	for _, tree := range src.trees {
+		for _, d := range tree.Decls {
+			f, ok := d.(*ast.FuncDecl)
+			if !ok || f.Body == nil {
+				continue
+			}
+			arguments := argumentsOf(src, f)
+			ast.Inspect(f.Body, func(n ast.Node) bool {
+				for _, x := range writtenBy(src, n) {
+					root := rootOf(x)
+					if root != nil && arguments[src.info.Uses[root]] {
+						out = append(out, f.Name.Name+" writes to "+root.Name+" at line "+src.files.Position(x.Pos()).String())
+					}
+				}
+				return true
+			})
+		}
+	}
+	return out
+}
+
+// argumentsOf returns what the receiver and the parameters of a function are.
+func argumentsOf(src source, f *ast.FuncDecl) map[types.Object]bool {
+	out := map[types.Object]bool{}
+	lists := []*ast.FieldList{f.Type.Params}
+	if f.Recv != nil {
+		lists = append(lists, f.Recv)
+	}
+	for _, list := range lists {
+		for _, field := range list.List {
+			for _, name := range field.Names {
+				if x := src.info.Defs[name]; x != nil {
+					out[x] = true
+				}
+			}
+		}
+	}
+	return out
+}
+
+// writtenBy returns what is written to by a statement or a call, but for names themselves and fields of values, which are a function's own.
+func writtenBy(src source, n ast.Node) []ast.Expr {
+	switch x := n.(type) {
+	case *ast.AssignStmt:
+		return outsideOf(src, x.Lhs)
+	case *ast.IncDecStmt:
+		return outsideOf(src, []ast.Expr{x.X})
+	case *ast.CallExpr:
+		name, ok := x.Fun.(*ast.Ident)
+		if ok && len(x.Args) > 0 && (name.Name == "append" || name.Name == "copy" || name.Name == "clear") {
+			return x.Args[:1]
+		}
+	}
+	return nil
+}
+
+// outsideOf returns those of the left sides of an assignment that go through an index or a pointer.
+func outsideOf(src source, list []ast.Expr) []ast.Expr {
+	out := []ast.Expr{}
+	for _, left := range list {
+		through := false
+		ast.Inspect(left, func(n ast.Node) bool {
+			switch x := n.(type) {
+			case *ast.IndexExpr, *ast.StarExpr:
+				through = true
+			case *ast.SelectorExpr:
+				through = through || isPointer(src, x.X)
+			}
+			return true
+		})
+		if through {
+			out = append(out, left)
+		}
+	}
+	return out
+}
+
+func isPointer(src source, x ast.Expr) bool {
+	kind := src.info.TypeOf(x)
+	if kind == nil {
+		return false
+	}
+	_, ok := kind.Underlying().(*types.Pointer)
+	return ok
+}
+
+// rootOf returns the name with which an expression begins, nil if it begins with something else.
+func rootOf(x ast.Expr) *ast.Ident {
+	switch x := x.(type) {
+	case *ast.Ident:
+		return x
+	case *ast.SelectorExpr:
+		return rootOf(x.X)
+	case *ast.IndexExpr:
+		return rootOf(x.X)
+	case *ast.SliceExpr:
+		return rootOf(x.X)
+	case *ast.StarExpr:
+		return rootOf(x.X)
+	case *ast.ParenExpr:
+		return rootOf(x.X)
+	}
+	return nil
 }

@@ -1,0 +1,163 @@
+package tests
+
+import (
+	"math"
+
+	"loop.example/backintime/impl"
+)
+
+// dice gives numbers that are the same each time the tests run.
+type dice struct {
+	seed int
+}
+
+func (d *dice) below(n int) int {
+	d.seed = d.seed * 16807 % 2147483647
+	return d.seed % n
+}
+
+func (d *dice) oneOf(list []int) int {
+	return list[d.below(len(list))]
+}
+
+// word returns a number of a register or a cell, often one near an edge.
+func (d *dice) word() int {
+	if d.below(2) == 0 {
+		return d.oneOf([]int{0, 0, 1, 2, 7, 8, 9, 100, 4999, 5000, 9998, 9999})
+	}
+	return d.below(10000)
+}
+
+func (d *dice) words(many int) []int {
+	out := []int{}
+	for i := 0; i < many; i++ {
+		out = append(out, d.word())
+	}
+	return out
+}
+
+func (d *dice) numbers(many int, low int, top int) []int {
+	out := []int{}
+	for i := 0; i < many; i++ {
+		out = append(out, low+d.below(top-low))
+	}
+	return out
+}
+
+// code returns an instruction of a program with so many of them.
+func (d *dice) code(many int) impl.Code {
+	op := d.below(18)
+	u := usesByOp()[op]
+	c := impl.Code{Op: op, A: d.below(max(regTop(u.a), 1)), B: d.below(max(regTop(u.b), 1))}
+	if u.place {
+		c.C = d.below(many)
+	} else {
+		c.C = d.below(max(u.cTop, 1))
+	}
+	return c
+}
+
+func (d *dice) program() impl.Program {
+	many := d.oneOf([]int{1, 2, 3, 5, 10, 59, 60})
+	p := impl.Program{Handler: d.below(many+1) - 1}
+	for i := 0; i < many; i++ {
+		p.Rows = append(p.Rows, d.code(many))
+	}
+	return p
+}
+
+func (d *dice) thread(many int) impl.Thread {
+	return impl.Thread{
+		At:    d.below(many + 1),
+		Regs:  d.words(4),
+		Stack: d.numbers(d.oneOf([]int{0, 0, 1, 3, 5, 6, 6}), 0, many+1),
+		State: d.oneOf([]int{0, 0, 0, 0, 1, 2}),
+	}
+}
+
+func (d *dice) machine(p impl.Program) impl.Machine {
+	m := impl.Machine{Cells: d.words(8), Told: d.words(d.oneOf([]int{0, 0, 1, 5, 999, 1000}))}
+	for i := d.below(4); i >= 0; i-- {
+		m.Threads = append(m.Threads, d.thread(len(p.Rows)))
+	}
+	m.Locks = d.numbers(2, -1, len(m.Threads))
+	return m
+}
+
+func (d *dice) choice() impl.Choice {
+	c := impl.Choice{Who: d.oneOf([]int{-1, 0, 0, 0, 0, 1, 1, 1, 2, 2, 3, 4}), Kind: d.oneOf([]int{0, 0, 0, 0, 0, 0, 1, 1, 2, -1})}
+	if d.below(5) == 0 {
+		c.Reply = d.oneOf([]int{-1, 1, 77, 9999, 10000, math.MinInt, math.MaxInt})
+	}
+	return c
+}
+
+// oneIn returns 1 once in so many times, and else 0.
+func (d *dice) oneIn(many int) int {
+	if d.below(many) == 0 {
+		return 1
+	}
+	return 0
+}
+
+// mangled returns a list that is longer, shorter, or has a number that it may not have.
+func (d *dice) mangled(list []int) []int {
+	out := cloneInts(list)
+	switch d.below(4) {
+	case 0:
+		return out[:d.below(len(out)+1)]
+	case 1:
+		return append(out, make([]int, d.oneOf([]int{1, 2, 990, 1000}))...)
+	case 2:
+		if len(out) > 0 {
+			out[d.below(len(out))] = d.oneOf(fieldsNear())
+		}
+	}
+	return out
+}
+
+func (d *dice) mangledMachine(m impl.Machine) impl.Machine {
+	out := clone(m)
+	who := d.below(len(out.Threads))
+	switch d.below(16) {
+	case 0:
+		out.Cells = d.mangled(out.Cells)
+	case 1:
+		out.Locks = d.mangled(out.Locks)
+	case 2:
+		out.Told = d.mangled(out.Told)
+	case 3:
+		out.Threads[who].Regs = d.mangled(out.Threads[who].Regs)
+	case 4:
+		out.Threads[who].Stack = d.mangled(out.Threads[who].Stack)
+	case 5:
+		out.Threads[who].At = d.oneOf(fieldsNear())
+	case 6:
+		out.Threads[who].State = d.oneOf(fieldsNear())
+	case 7:
+		for many := d.oneOf([]int{0, 1, 2, 3, 4, 5, 6, 1000}); len(out.Threads) < many; {
+			out.Threads = append(out.Threads, cloneThread(out.Threads[0]))
+		}
+	}
+	return out
+}
+
+func (d *dice) mangledProgram(p impl.Program) impl.Program {
+	out := impl.Program{Rows: append([]impl.Code{}, p.Rows...), Handler: p.Handler}
+	at := d.below(len(out.Rows))
+	switch d.below(12) {
+	case 0:
+		out.Handler = d.oneOf(fieldsNear())
+	case 1:
+		out.Rows[at].Op = d.oneOf(fieldsNear())
+	case 2:
+		out.Rows[at].A = d.oneOf(fieldsNear())
+	case 3:
+		out.Rows[at].C = d.oneOf(fieldsNear())
+	case 4:
+		out.Rows = out.Rows[:at]
+	case 5:
+		out.Rows = append(out.Rows, rowsOf(d.oneOf([]int{1, 60, 900}))...)
+	}
+	return out
+}

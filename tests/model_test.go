@@ -1,0 +1,234 @@
+package tests
+
+import (
+	"testing"
+
+	"loop.example/backintime/impl"
+)
+
+func cloneInts(list []int) []int {
+	return append([]int{}, list...)
+}
+
+func cloneThread(t impl.Thread) impl.Thread {
+	return impl.Thread{At: t.At, Regs: cloneInts(t.Regs), Stack: cloneInts(t.Stack), State: t.State}
+}
+
+func clone(m impl.Machine) impl.Machine {
+	out := impl.Machine{Cells: cloneInts(m.Cells), Locks: cloneInts(m.Locks), Told: cloneInts(m.Told)}
+	for _, t := range m.Threads {
+		out.Threads = append(out.Threads, cloneThread(t))
+	}
+	return out
+}
+
+// equalThreads and equal are this test's own, so that SameMachine is not checked by itself.
+func equalThreads(a impl.Thread, b impl.Thread) bool {
+	return a.At == b.At && a.State == b.State && sameInts(a.Regs, b.Regs) && sameInts(a.Stack, b.Stack)
+}
+
+func equal(a impl.Machine, b impl.Machine) bool {
+	if len(a.Threads) != len(b.Threads) {
+		return false
+	}
+	for i := range a.Threads {
+		if !equalThreads(a.Threads[i], b.Threads[i]) {
+			return false
+		}
+	}
+	return sameInts(a.Cells, b.Cells) && sameInts(a.Locks, b.Locks) && sameInts(a.Told, b.Told)
+}
+
+func within(list []int, low int, high int) bool {
+	for _, n := range list {
+		if n < low || n > high {
+			return false
+		}
+	}
+	return true
+}
+
+func machineExpected(p impl.Program, m impl.Machine) bool {
+	n := len(p.Rows)
+	if !impl.ProgramOk(p) || len(m.Threads) == 0 || len(m.Threads) > 4 {
+		return false
+	}
+	for _, t := range m.Threads {
+		if t.At < 0 || t.At > n || t.State < 0 || t.State > 2 {
+			return false
+		}
+		if len(t.Stack) > 6 || !within(t.Stack, 0, n) || len(t.Regs) != 4 || !within(t.Regs, 0, 9999) {
+			return false
+		}
+	}
+	return len(m.Cells) == 8 && within(m.Cells, 0, 9999) &&
+		len(m.Locks) == 2 && within(m.Locks, -1, len(m.Threads)-1) &&
+		len(m.Told) <= 1000 && within(m.Told, 0, 9999)
+}
+
+func runsExpected(m impl.Machine, who int) bool {
+	return who >= 0 && who < len(m.Threads) && m.Threads[who].State == impl.ThreadRuns
+}
+
+func canExpected(p impl.Program, m impl.Machine, c impl.Choice) bool {
+	if !machineExpected(p, m) || !runsExpected(m, c.Who) {
+		return false
+	}
+	t := m.Threads[c.Who]
+	if c.Kind == impl.ChoiceSignal {
+		return p.Handler != -1 && len(t.Stack) < 6 && c.Reply == 0
+	}
+	if c.Kind != impl.ChoiceStep {
+		return false
+	}
+	if t.At == len(p.Rows) {
+		return c.Reply == 0
+	}
+	code := p.Rows[t.At]
+	if code.Op == impl.OpAsk {
+		return c.Reply >= 0 && c.Reply < 10000
+	}
+	if code.Op == impl.OpLock && m.Locks[code.C] >= 0 || code.Op == impl.OpTell && len(m.Told) == 1000 {
+		return false
+	}
+	return c.Reply == 0
+}
+
+// doExpected does a choice a second way: by writing into a copy of the machine.
+func doExpected(p impl.Program, m impl.Machine, c impl.Choice) (impl.Machine, bool) {
+	if !canExpected(p, m, c) {
+		return impl.Machine{}, false
+	}
+	out := clone(m)
+	t := &out.Threads[c.Who]
+	if c.Kind == impl.ChoiceSignal {
+		t.Stack = append(t.Stack, t.At)
+		t.At = p.Handler
+		return out, true
+	}
+	if t.At == len(p.Rows) {
+		t.State = 2
+		return out, true
+	}
+	code := p.Rows[t.At]
+	deep := len(t.Stack)
+	switch code.Op {
+	case impl.OpHalt:
+		t.State = 1
+	case impl.OpJump:
+		t.At = code.C
+	case impl.OpZero:
+		if t.Regs[code.A] == 0 {
+			t.At = code.C
+		} else {
+			t.At++
+		}
+	case impl.OpCall:
+		if deep == 6 {
+			t.State = 2
+		} else {
+			t.Stack = append(t.Stack, t.At+1)
+			t.At = code.C
+		}
+	case impl.OpRet:
+		if deep == 0 {
+			t.State = 2
+		} else {
+			t.At = t.Stack[deep-1]
+			t.Stack = t.Stack[:deep-1]
+		}
+	case impl.OpTell:
+		out.Told = append(out.Told, t.Regs[code.A])
+		t.At++
+	case impl.OpLock:
+		out.Locks[code.C] = c.Who
+		t.At++
+	case impl.OpFree:
+		if out.Locks[code.C] != c.Who {
+			t.State = 2
+		} else {
+			out.Locks[code.C] = -1
+			t.At++
+		}
+	case impl.OpBegin:
+		if len(out.Threads) == 4 {
+			t.State = 2
+		} else {
+			t.At++
+			out.Threads = append(out.Threads, impl.Thread{At: code.C, Regs: cloneInts(t.Regs)})
+		}
+	case impl.OpStore:
+		out.Cells[(t.Regs[code.B]+code.C)%8] = t.Regs[code.A]
+		t.At++
+	default:
+		t.Regs[code.A] = setExpected(m, c, code, t.Regs)
+		t.At++
+	}
+	return out, true
+}
+
+func setExpected(m impl.Machine, c impl.Choice, code impl.Code, regs []int) int {
+	a, b := regs[code.A], regs[code.B]
+	switch code.Op {
+	case impl.OpSet:
+		return code.C
+	case impl.OpMove:
+		return b
+	case impl.OpAdd:
+		return (a + b) % 10000
+	case impl.OpSub:
+		return ((a-b)%10000 + 10000) % 10000
+	case impl.OpMul:
+		return (a * b) % 10000
+	case impl.OpLess:
+		if a < b {
+			return 1
+		}
+		return 0
+	case impl.OpLoad:
+		return m.Cells[(b+code.C)%8]
+	}
+	return c.Reply
+}
+
+func stuckExpected(p impl.Program, m impl.Machine) bool {
+	running, waiting := 0, 0
+	if !machineExpected(p, m) {
+		return false
+	}
+	for _, t := range m.Threads {
+		if t.State != 0 {
+			continue
+		}
+		running++
+		if t.At == len(p.Rows) {
+			continue
+		}
+		code := p.Rows[t.At]
+		if code.Op == impl.OpLock && m.Locks[code.C] != -1 || code.Op == impl.OpTell && len(m.Told) == 1000 {
+			waiting++
+		}
+	}
+	return running > 0 && running == waiting
+}
+
+func instrExpected(p impl.Program, m impl.Machine, who int) (impl.Code, bool) {
+	if !machineExpected(p, m) || !runsExpected(m, who) || m.Threads[who].At == len(p.Rows) {
+		return impl.Code{}, false
+	}
+	return p.Rows[m.Threads[who].At], true
+}
+
+// doneAsExpected fails if a choice is not made, or not to be made, as this test's own machine tells.
+func doneAsExpected(t *testing.T, p impl.Program, m impl.Machine, c impl.Choice) (impl.Machine, bool) {
+	t.Helper()
+	want, there := doExpected(p, m, c)
+	got, ok := impl.Do(p, m, c)
+	if ok != there || !equal(got, want) {
+		t.Fatalf("Do(%v, %v, %v)\n = %v, %v\nwant %v, %v", p, m, c, got, ok, want, there)
+	}
+	if impl.CanDo(p, m, c) != there {
+		t.Fatalf("CanDo(%v, %v, %v) = %v", p, m, c, !there)
+	}
+	return got, ok
+}
