@@ -161,3 +161,63 @@ func (d *dice) mangledProgram(p impl.Program) impl.Program {
 	}
 	return out
 }
+
+// lively returns a program whose threads mostly go on: what ends one is seldom, and the last instruction leads back.
+func (d *dice) lively() impl.Program {
+	p := d.program()
+	many := len(p.Rows)
+	for i, c := range p.Rows {
+		switch c.Op {
+		case impl.OpHalt, impl.OpRet, impl.OpFree, impl.OpLock, impl.OpBegin, impl.OpCall:
+			if d.below(3) > 0 {
+				p.Rows[i] = impl.Code{Op: d.oneOf([]int{impl.OpAsk, impl.OpTell}), A: d.below(4)}
+			}
+		}
+	}
+	p.Rows[many-1] = impl.Code{Op: impl.OpJump, C: d.below(many)}
+	return p
+}
+
+// run returns a run of a program with at most so many choices; fewer only if none is left.
+func (d *dice) run(p impl.Program, n int) []impl.Choice {
+	out := []impl.Choice{}
+	m := machineOf(at(0))
+	for len(out) < n {
+		can := choosingExpected(p, m)
+		if len(can) == 0 {
+			return out
+		}
+		c := can[d.below(len(can))]
+		if c.Kind == impl.ChoiceSignal {
+			c = can[d.below(len(can))]
+		}
+		if asks(p, m, c) {
+			c.Reply = d.word()
+		}
+		m, _ = doExpected(p, m, c)
+		out = append(out, c)
+	}
+	return out
+}
+
+// mangledRun returns a row of choices with one more, one less or another one somewhere, or with many behind it.
+func (d *dice) mangledRun(list []impl.Choice) []impl.Choice {
+	k := d.below(len(list) + 1)
+	ahead := append([]impl.Choice{}, list[:k]...)
+	behind := append([]impl.Choice{}, list[k:]...)
+	switch d.below(6) {
+	case 0:
+		return append(append(ahead, d.choice()), behind...)
+	case 1:
+		return append(append(ahead, d.choice()), behind[min(1, len(behind)):]...)
+	case 2:
+		return append(ahead, behind[min(1, len(behind)):]...)
+	case 3:
+		return append(append(ahead, behind...), make([]impl.Choice, d.oneOf([]int{1, 300, 1000}))...)
+	case 4:
+		n := d.oneOf(fieldsNear())
+		bad := []impl.Choice{{Who: n}, {Kind: n}, {Reply: n}}
+		return append(append(ahead, bad[d.below(3)]), behind...)
+	}
+	return ahead
+}

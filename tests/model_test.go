@@ -1,6 +1,8 @@
 package tests
 
 import (
+	"math"
+	"slices"
 	"testing"
 
 	"loop.example/backintime/impl"
@@ -231,4 +233,98 @@ func doneAsExpected(t *testing.T, p impl.Program, m impl.Machine, c impl.Choice)
 		t.Fatalf("CanDo(%v, %v, %v) = %v", p, m, c, !there)
 	}
 	return got, ok
+}
+
+// machinesExpected returns the machine at first and those behind the choices of a row, as far as they can be made, and 300 of them at most; none of what is no program.
+func machinesExpected(p impl.Program, list []impl.Choice) []impl.Machine {
+	if !impl.ProgramOk(p) {
+		return nil
+	}
+	out := []impl.Machine{machineOf(at(0))}
+	for _, c := range list {
+		next, ok := doExpected(p, out[len(out)-1], c)
+		if !ok || len(out) == 301 {
+			return out
+		}
+		out = append(out, next)
+	}
+	return out
+}
+
+func choosingExpected(p impl.Program, m impl.Machine) []impl.Choice {
+	out := []impl.Choice{}
+	for k := 0; k < 8; k++ {
+		if c := (impl.Choice{Who: k / 2, Kind: k % 2}); canExpected(p, m, c) {
+			out = append(out, c)
+		}
+	}
+	return out
+}
+
+// asks reports whether a choice is a step at which something is answered.
+func asks(p impl.Program, m impl.Machine, c impl.Choice) bool {
+	code, ok := instrExpected(p, m, c.Who)
+	return ok && code.Op == impl.OpAsk && c.Kind == impl.ChoiceStep
+}
+
+func seedRunExpected(p impl.Program, seed int, n int) []impl.Choice {
+	out := []impl.Choice{}
+	if !impl.ProgramOk(p) || seed < 0 || seed > 2147483646 || n < 0 || n > 300 {
+		return out
+	}
+	m := machineOf(at(0))
+	for s := uint64(seed); len(out) < n; {
+		can := choosingExpected(p, m)
+		if len(can) == 0 {
+			break
+		}
+		s = s * 16807 % 2147483647
+		c := can[s%uint64(len(can))]
+		if asks(p, m, c) {
+			c.Reply = int(s % 10000)
+		}
+		m, _ = doExpected(p, m, c)
+		out = append(out, c)
+	}
+	return out
+}
+
+// runAsExpected fails if a row of choices is not looked at as this test's own machine tells; it returns how many can be made.
+func runAsExpected(t *testing.T, p impl.Program, list []impl.Choice) int {
+	t.Helper()
+	machines := machinesExpected(p, list)
+	long := len(machines) - 1
+	is := long == len(list)
+	if impl.RunLong(p, list) != long || impl.RunOk(p, list) != is {
+		t.Fatalf("of %v %d choices of %v can be made: RunLong is %d, RunOk is %v", p, long, list, impl.RunLong(p, list), impl.RunOk(p, list))
+	}
+	chosen := []impl.Choice{}
+	if is {
+		chosen = choosingExpected(p, machines[long])
+	} else {
+		machines = nil
+	}
+	if got := impl.Choosing(p, list); !slices.Equal(got, chosen) {
+		t.Fatalf("behind %v of %v can be chosen %v, want %v", list, p, got, chosen)
+	}
+	got := impl.Machines(p, list)
+	if len(got) != len(machines) {
+		t.Fatalf("%v of %v has %d machines, want %d", list, p, len(got), len(machines))
+	}
+	for k := range got {
+		if !equal(got[k], machines[k]) {
+			t.Fatalf("machine %d of %v of %v is %v, want %v", k, list, p, got[k], machines[k])
+		}
+	}
+	for _, k := range []int{math.MinInt, -1, 0, 1, len(list) / 2, long, long + 1, len(list), len(list) + 1, math.MaxInt} {
+		want := impl.Machine{}
+		there := k >= 0 && k < len(machines)
+		if there {
+			want = machines[k]
+		}
+		if m, ok := impl.MachineAt(p, list, k); ok != there || !equal(m, want) {
+			t.Fatalf("MachineAt(%v, %v, %d) = %v, %v, want %v, %v", p, list, k, m, ok, want, there)
+		}
+	}
+	return long
 }
