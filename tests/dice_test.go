@@ -221,3 +221,73 @@ func (d *dice) mangledRun(list []impl.Choice) []impl.Choice {
 	}
 	return ahead
 }
+
+// longRun returns a run of a program with at most so many choices, in which a thread often goes on for many steps.
+func (d *dice) longRun(p impl.Program, n int) []impl.Choice {
+	out := []impl.Choice{}
+	m := machineOf(at(0))
+	now := impl.Choice{}
+	for len(out) < n {
+		can := choosingExpected(p, m)
+		if len(can) == 0 {
+			return out
+		}
+		now.Reply = 0
+		if d.below(5) == 0 || !canExpected(p, m, now) {
+			now = can[d.below(len(can))]
+		}
+		if asks(p, m, now) {
+			now.Reply = d.word()
+		}
+		m, _ = doExpected(p, m, now)
+		out = append(out, now)
+	}
+	return out
+}
+
+// mangledRecord returns a recording with a slice or an answer that is there twice, is missing, or is another one.
+func (d *dice) mangledRecord(r impl.Record) impl.Record {
+	k := d.below(len(r.Slices) + 1)
+	n := d.below(len(r.Answers) + 1)
+	ahead := append([]impl.Slice{}, r.Slices[:k]...)
+	behind := append([]impl.Slice{}, r.Slices[k:]...)
+	answers := append([]int{}, r.Answers[:n]...)
+	later := append([]int{}, r.Answers[n:]...)
+	switch d.below(12) {
+	case 0:
+		ahead = append(ahead, sliceOf(d.below(5)-1, d.below(3), d.oneOf([]int{-1, 0, 1, 2, 300})))
+	case 1:
+		if len(behind) > 0 {
+			many := d.below(behind[0].Many + 1)
+			ahead = append(ahead, sliceOf(behind[0].Who, behind[0].Kind, many))
+			behind[0].Many -= many
+		}
+	case 2:
+		if len(behind) > 0 {
+			behind[0].Many = d.oneOf(append(fieldsNear(), 299, 300, 301, behind[0].Many-1, behind[0].Many+1))
+		}
+	case 3:
+		if len(behind) > 0 {
+			behind[0].Who = d.oneOf(fieldsNear())
+		}
+	case 4:
+		if len(behind) > 0 {
+			behind[0].Kind = d.oneOf(fieldsNear())
+		}
+	case 5:
+		behind = behind[min(1, len(behind)):]
+	case 6:
+		behind = append(behind, make([]impl.Slice, d.oneOf([]int{1, 300, 1000}))...)
+	case 7:
+		later = later[min(1, len(later)):]
+	case 8:
+		answers = append(answers, d.word())
+	case 9:
+		if len(later) > 0 {
+			later[0] = d.oneOf(fieldsNear())
+		}
+	case 10:
+		later = append(later, make([]int, d.oneOf([]int{1, 300, 1000}))...)
+	}
+	return recordOf(append(answers, later...), append(ahead, behind...)...)
+}

@@ -328,3 +328,140 @@ func runAsExpected(t *testing.T, p impl.Program, list []impl.Choice) int {
 	}
 	return long
 }
+
+// sliceOf returns so many choices of a kind and a thread.
+func sliceOf(who int, kind int, many int) impl.Slice {
+	return impl.Slice{Who: who, Kind: kind, Many: many}
+}
+
+// recordOf returns a recording of answers and slices.
+func recordOf(answers []int, list ...impl.Slice) impl.Record {
+	return impl.Record{Slices: list, Answers: answers}
+}
+
+func cloneRecord(r impl.Record) impl.Record {
+	return recordOf(cloneInts(r.Answers), append([]impl.Slice{}, r.Slices...)...)
+}
+
+func sameRecord(a impl.Record, b impl.Record) bool {
+	return slices.Equal(a.Slices, b.Slices) && slices.Equal(a.Answers, b.Answers)
+}
+
+// partRecord returns the slices and answers of choices that are made from a machine on.
+func partRecord(p impl.Program, m impl.Machine, list []impl.Choice) impl.Record {
+	r := impl.Record{}
+	for len(list) > 0 {
+		many := 1
+		for many < len(list) && list[many].Who == list[0].Who && list[many].Kind == list[0].Kind {
+			many++
+		}
+		r.Slices = append(r.Slices, sliceOf(list[0].Who, list[0].Kind, many))
+		for _, c := range list[:many] {
+			if asks(p, m, c) {
+				r.Answers = append(r.Answers, c.Reply)
+			}
+			m, _ = doExpected(p, m, c)
+		}
+		list = list[many:]
+	}
+	return r
+}
+
+func recordExpected(p impl.Program, list []impl.Choice) (impl.Record, bool) {
+	if len(machinesExpected(p, list)) != len(list)+1 {
+		return impl.Record{}, false
+	}
+	return partRecord(p, machineOf(at(0)), list), true
+}
+
+// replayExpected makes choice by choice what a recording tells, and counts as it goes.
+func replayExpected(p impl.Program, r impl.Record) ([]impl.Choice, bool) {
+	if !impl.ProgramOk(p) {
+		return nil, false
+	}
+	out := []impl.Choice{}
+	m := machineOf(at(0))
+	left := r.Answers
+	for k, s := range r.Slices {
+		if s.Many < 1 || k > 0 && s.Who == r.Slices[k-1].Who && s.Kind == r.Slices[k-1].Kind {
+			return nil, false
+		}
+		for n := 0; n < s.Many; n++ {
+			c := impl.Choice{Who: s.Who, Kind: s.Kind}
+			if asks(p, m, c) && len(left) > 0 {
+				c.Reply = left[0]
+				left = left[1:]
+			} else if asks(p, m, c) {
+				return nil, false
+			}
+			next, ok := doExpected(p, m, c)
+			if !ok || len(out) == 300 {
+				return nil, false
+			}
+			m = next
+			out = append(out, c)
+		}
+	}
+	if len(left) > 0 {
+		return nil, false
+	}
+	return out, true
+}
+
+func joinExpected(p impl.Program, r impl.Record, more impl.Record) (impl.Record, bool) {
+	if _, ok := replayExpected(p, r); !ok {
+		return impl.Record{}, false
+	}
+	out := cloneRecord(r)
+	for k, s := range more.Slices {
+		if s.Many < 1 || s.Many > 300 {
+			return impl.Record{}, false
+		}
+		end := len(out.Slices) - 1
+		if k == 0 && end >= 0 && out.Slices[end].Who == s.Who && out.Slices[end].Kind == s.Kind {
+			out.Slices[end].Many += s.Many
+			continue
+		}
+		out.Slices = append(out.Slices, s)
+	}
+	out.Answers = append(out.Answers, more.Answers...)
+	if _, ok := replayExpected(p, out); !ok {
+		return impl.Record{}, false
+	}
+	return out, true
+}
+
+// recordAsExpected fails if a recording is not looked at as this test's own machine tells; it returns whether it is one.
+func recordAsExpected(t *testing.T, p impl.Program, r impl.Record) bool {
+	t.Helper()
+	list, is := replayExpected(p, r)
+	got, ok := impl.Replay(p, r)
+	if ok != is || !slices.Equal(got, list) {
+		t.Fatalf("Replay(%v, %v) = %v, %v, want %v, %v", p, r, got, ok, list, is)
+	}
+	if impl.RecordOk(p, r) != is {
+		t.Fatalf("RecordOk(%v, %v) = %v", p, r, !is)
+	}
+	for _, n := range []int{math.MinInt, -1, 0, 1, len(list) / 2, len(list) - 1, len(list), len(list) + 1, 300, 301, math.MaxInt} {
+		want := impl.Record{}
+		there := is && n >= 0 && n <= len(list)
+		if there {
+			want, _ = recordExpected(p, list[:n])
+		}
+		if cut, ok := impl.RecordCut(p, r, n); ok != there || !sameRecord(cut, want) {
+			t.Fatalf("RecordCut(%v, %v, %d) = %v, %v, want %v, %v", p, r, n, cut, ok, want, there)
+		}
+	}
+	return is
+}
+
+// joinedAsExpected fails if two recordings are not joined as this test's own machine tells; it returns whether they can be.
+func joinedAsExpected(t *testing.T, p impl.Program, r impl.Record, more impl.Record) bool {
+	t.Helper()
+	want, is := joinExpected(p, r, more)
+	got, ok := impl.RecordJoin(p, r, more)
+	if ok != is || !sameRecord(got, want) {
+		t.Fatalf("RecordJoin(%v, %v, %v) = %v, %v, want %v, %v", p, r, more, got, ok, want, is)
+	}
+	return is
+}
