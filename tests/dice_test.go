@@ -291,3 +291,71 @@ func (d *dice) mangledRecord(r impl.Record) impl.Record {
 	}
 	return recordOf(append(answers, later...), append(ahead, behind...)...)
 }
+
+// bytes returns so many bytes, most of them such as tapes have.
+func (d *dice) bytes(many int) string {
+	out := []byte{}
+	for i := 0; i < many; i++ {
+		out = append(out, byte(d.oneOf([]int{0, 0, 0, 1, 1, 1, 2, 2, 3, 4, 5, 6, 7, 42, 126, 127, 128, 129, 255, d.below(256)})))
+	}
+	return string(out)
+}
+
+// overlong returns a number in so many bytes more than needed.
+func overlong(n int, more int) string {
+	out := []byte(numBytes(n))
+	for ; more > 0; more-- {
+		out[len(out)-1] |= 128
+		out = append(out, 0)
+	}
+	return string(out)
+}
+
+// mangledTape returns a tape of which bytes are gone, are other ones, or more than there were.
+func (d *dice) mangledTape(tape string) string {
+	k := d.below(len(tape) + 1)
+	ahead, behind := tape[:k], tape[k:]
+	rest := behind[min(1, len(behind)):]
+	switch d.below(8) {
+	case 0:
+		return ahead
+	case 1:
+		return ahead + rest
+	case 2:
+		return ahead + d.bytes(1) + behind
+	case 3:
+		return ahead + d.bytes(1) + rest
+	case 4:
+		return tape + d.bytes(d.oneOf([]int{1, 2, 5, 100}))
+	case 5:
+		return ahead + d.bytes(d.oneOf([]int{1, 2, 5, 100}))
+	case 6:
+		return d.mangledNums(tape)
+	}
+	return tape
+}
+
+// mangledNums returns a tape of which one number is gone, is another one, has more bytes than needed, or has others ahead of it.
+func (d *dice) mangledNums(tape string) string {
+	nums := append(numsOn(tape), 0)
+	k := d.below(len(nums))
+	now := numBytes(nums[k])
+	out := ""
+	for _, n := range nums[:k] {
+		out += numBytes(n)
+	}
+	behind := tape[min(len(out)+len(now), len(tape)):]
+	switch d.below(6) {
+	case 0:
+		return out + behind
+	case 1:
+		return out + overlong(nums[k], 1+d.below(2)) + behind
+	case 2:
+		return out + numBytes(nums[k]+1) + behind
+	case 3:
+		return out + numBytes(d.oneOf([]int{0, 1, 8, 127, 128, 300, 301, 9999, 10000, 16384, math.MaxInt})) + behind
+	case 4:
+		return out + numBytes(d.below(9)) + "\x00" + now + behind
+	}
+	return out + now + now + behind
+}

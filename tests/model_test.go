@@ -1,6 +1,7 @@
 package tests
 
 import (
+	"encoding/binary"
 	"math"
 	"slices"
 	"testing"
@@ -464,4 +465,106 @@ func joinedAsExpected(t *testing.T, p impl.Program, r impl.Record, more impl.Rec
 		t.Fatalf("RecordJoin(%v, %v, %v) = %v, %v, want %v, %v", p, r, more, got, ok, want, is)
 	}
 	return is
+}
+
+// numBytes returns a number as a tape has it, by the numbers in bytes that Go's library knows.
+func numBytes(n int) string {
+	return string(binary.AppendUvarint(nil, uint64(n)))
+}
+
+func numExpected(s string, at int) (int, int, bool) {
+	if at < 0 || at >= len(s) {
+		return 0, 0, false
+	}
+	n, many := binary.Uvarint([]byte(s[at:]))
+	if many <= 0 || n > math.MaxInt || numBytes(int(n)) != s[at:at+many] {
+		return 0, 0, false
+	}
+	return int(n), at + many, true
+}
+
+// numsOn returns the numbers that stand on a tape, up to where there is none.
+func numsOn(tape string) []int {
+	out := []int{}
+	n, next, ok := numExpected(tape, 0)
+	for ok {
+		out = append(out, n)
+		n, next, ok = numExpected(tape, next)
+	}
+	return out
+}
+
+func tapeExpected(p impl.Program, r impl.Record) string {
+	list, ok := replayExpected(p, r)
+	if !ok {
+		return ""
+	}
+	machines := machinesExpected(p, list)
+	tape := ""
+	k := 0
+	for _, s := range r.Slices {
+		tape += numBytes(s.Who<<1|s.Kind) + numBytes(s.Many)
+		for range s.Many {
+			if asks(p, machines[k], list[k]) {
+				tape += numBytes(list[k].Reply)
+			}
+			k++
+		}
+	}
+	return tape
+}
+
+// readExpected makes the choices of a tape from a row of all its numbers.
+func readExpected(p impl.Program, tape string) []impl.Choice {
+	out := []impl.Choice{}
+	if !impl.ProgramOk(p) {
+		return out
+	}
+	m := machineOf(at(0))
+	nums := numsOn(tape)
+	for len(nums) > 1 {
+		who, kind, many := nums[0]/2, nums[0]%2, nums[1]
+		nums = nums[2:]
+		for many > 0 {
+			c := impl.Choice{Who: who, Kind: kind}
+			if asks(p, m, c) && len(nums) == 0 {
+				return out
+			} else if asks(p, m, c) {
+				c.Reply = nums[0]
+				nums = nums[1:]
+			}
+			next, ok := doExpected(p, m, c)
+			if !ok || len(out) == 300 {
+				return out
+			}
+			m = next
+			out = append(out, c)
+			many--
+		}
+	}
+	return out
+}
+
+// tapeAsExpected fails if bytes are not looked at as this test's own machine tells; it returns the choices that stand there, and whether they are a tape.
+func tapeAsExpected(t *testing.T, p impl.Program, tape string) ([]impl.Choice, bool) {
+	t.Helper()
+	list := readExpected(p, tape)
+	if got := impl.ReadTape(p, tape); !slices.Equal(got, list) {
+		t.Fatalf("on %q of %v stands %v, want %v", tape, p, got, list)
+	}
+	want, is := recordExpected(p, list)
+	mended := tapeExpected(p, want)
+	if got := impl.TapeMend(p, tape); got != mended {
+		t.Fatalf("%q of %v is mended as %q, want %q", tape, p, got, mended)
+	}
+	if is && mended != tape {
+		want, is = impl.Record{}, false
+	}
+	if r, ok := impl.TapeRecord(p, tape); ok != is || !sameRecord(r, want) {
+		t.Fatalf("%q of %v is the tape of %v, %v, want %v, %v", tape, p, r, ok, want, is)
+	}
+	if impl.TapeOk(p, tape) != is {
+		t.Fatalf("%q is a tape of %v: %v", tape, p, !is)
+	}
+	return list, is
 }

@@ -315,16 +315,20 @@ func eachRecord(n int) []impl.Record {
 	return out
 }
 
-func TestP6EachRunOfAShortOneHasOneRecording(t *testing.T) {
-	programs := []impl.Program{
+func smallPrograms(t *testing.T) []impl.Program {
+	t.Helper()
+	return []impl.Program{
 		program(t, 1, "ask 0", "jump 0"),
 		program(t, -1, "begin 1", "ask 0", "jump 0"),
 		program(t, 0, "begin 1", "jump 0"),
 		program(t, 2, "lock 0", "begin 0", "ret"),
 		program(t, -1, "jump 0"),
 	}
+}
+
+func TestP6EachRunOfAShortOneHasOneRecording(t *testing.T) {
 	records := eachRecord(3)
-	for _, p := range programs {
+	for _, p := range smallPrograms(t) {
 		runs := eachRun(p, 3)
 		recordFor := map[string]impl.Record{}
 		for _, list := range runs {
