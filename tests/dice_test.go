@@ -359,3 +359,49 @@ func (d *dice) mangledNums(tape string) string {
 	}
 	return out + now + now + behind
 }
+
+// marks returns some marks of machines: none, few, many, or all.
+func (d *dice) marks(machines []impl.Machine) []impl.Mark {
+	places := []int{}
+	each := d.oneOf([]int{1, 2, 3, 10, 100})
+	for k := range machines {
+		if d.below(each) == 0 {
+			places = append(places, k)
+		}
+	}
+	if d.below(8) == 0 {
+		places = nil
+	}
+	return marksAt(machines, places...)
+}
+
+// mangledMarks returns marks of machines of which one is gone, is there twice, is at another place, or has another machine.
+func (d *dice) mangledMarks(marks []impl.Mark, machines []impl.Machine) []impl.Mark {
+	out := marksAt(machines, placesOf(marks)...)
+	if len(out) == 0 {
+		return []impl.Mark{{At: d.oneOf(fieldsNear()), M: machines[0]}}
+	}
+	k := d.below(len(out))
+	other := d.below(len(out))
+	switch d.below(10) {
+	case 0:
+		return append(out[:k], out[k+1:]...)
+	case 1:
+		return append(out[:k+1], marksAt(machines, placesOf(marks[k:])...)...)
+	case 2:
+		out[k], out[other] = out[other], out[k]
+	case 3:
+		out[k].At = d.oneOf(append(fieldsNear(), len(machines)-1, len(machines), 300, 301))
+	case 4:
+		out[k].At += d.oneOf([]int{-1, 1})
+	case 5:
+		out[k].M = d.mangledMachine(out[k].M)
+	case 6:
+		out[k].M = clone(machines[d.below(len(machines))])
+	case 7:
+		return append(out, impl.Mark{At: len(machines), M: machines[len(machines)-1]})
+	case 8:
+		return append(out, make([]impl.Mark, d.oneOf([]int{1, 300, 1000}))...)
+	}
+	return out
+}

@@ -3,6 +3,7 @@ package tests
 import (
 	"encoding/binary"
 	"math"
+	"math/bits"
 	"slices"
 	"testing"
 
@@ -567,4 +568,123 @@ func tapeAsExpected(t *testing.T, p impl.Program, tape string) ([]impl.Choice, b
 		t.Fatalf("%q is a tape of %v: %v", tape, p, !is)
 	}
 	return list, is
+}
+
+// marksAt returns the marks of machines at places.
+func marksAt(machines []impl.Machine, places ...int) []impl.Mark {
+	out := []impl.Mark{}
+	for _, place := range places {
+		out = append(out, impl.Mark{At: place, M: clone(machines[place])})
+	}
+	return out
+}
+
+func placesOf(marks []impl.Mark) []int {
+	out := []int{}
+	for _, x := range marks {
+		out = append(out, x.At)
+	}
+	return out
+}
+
+func sameMarks(a []impl.Mark, b []impl.Mark) bool {
+	if !sameInts(placesOf(a), placesOf(b)) {
+		return false
+	}
+	for k := range a {
+		if !equal(a[k].M, b[k].M) {
+			return false
+		}
+	}
+	return true
+}
+
+func ascends(list []int) bool {
+	for k := range list {
+		if k > 0 && list[k] <= list[k-1] {
+			return false
+		}
+	}
+	return true
+}
+
+func marksExpected(p impl.Program, list []impl.Choice, marks []impl.Mark) bool {
+	machines := machinesExpected(p, list)
+	if len(machines) != len(list)+1 || !ascends(placesOf(marks)) {
+		return false
+	}
+	for _, x := range marks {
+		if x.At < 0 || x.At > len(list) || !equal(x.M, machines[x.At]) {
+			return false
+		}
+	}
+	return true
+}
+
+// nearExpected looks at one place after the other, from the last one on.
+func nearExpected(places []int, at int) int {
+	for k := len(places) - 1; k >= 0 && ascends(places); k-- {
+		if places[k] <= at {
+			return k
+		}
+	}
+	return -1
+}
+
+func arriveExpected(p impl.Program, list []impl.Choice, marks []impl.Mark, at int) (impl.Machine, int, bool) {
+	if at < 0 || at > len(list) || !marksExpected(p, list, marks) {
+		return impl.Machine{}, 0, false
+	}
+	way := at
+	for _, x := range marks {
+		if x.At <= at {
+			way = at - x.At
+		}
+	}
+	return machinesExpected(p, list)[at], way, true
+}
+
+// keptExpected goes by the bits that are 0 at the end of a place, as four times a power of 2 may be no int.
+func keptExpected(at int, now int) bool {
+	if at <= 0 || at >= now {
+		return at >= 0 && now >= 0 && (at == 0 || at == now)
+	}
+	zeros := bits.TrailingZeros64(uint64(at)) + 2
+	return zeros >= 63 || 1<<zeros > now-at
+}
+
+// keptPlaces returns the places that are kept when a run has come to a place.
+func keptPlaces(now int) []int {
+	out := []int{}
+	for at := 0; at <= now; at++ {
+		if keptExpected(at, now) {
+			out = append(out, at)
+		}
+	}
+	return out
+}
+
+// marksAsExpected fails if marks are not looked at as this test's own machine tells; it returns whether they are marks of the run.
+func marksAsExpected(t *testing.T, p impl.Program, list []impl.Choice, marks []impl.Mark) bool {
+	t.Helper()
+	is := marksExpected(p, list, marks)
+	if impl.MarksOk(p, list, marks) != is {
+		t.Fatalf("%v are marks of %v of %v: %v", marks, list, p, !is)
+	}
+	places := []int{math.MinInt, -1, 0, 1, len(list) / 2, len(list) - 1, len(list), len(list) + 1, 301, math.MaxInt}
+	if len(marks) > 0 {
+		middle := marks[len(marks)/2].At
+		places = append(places, middle-1, middle, middle+1)
+	}
+	for _, k := range places {
+		if near := nearExpected(placesOf(marks), k); impl.MarkNear(marks, k) != near {
+			t.Fatalf("of marks at %v the last one up to %d is %d, want %d", placesOf(marks), k, impl.MarkNear(marks, k), near)
+		}
+		want, way, there := arriveExpected(p, list, marks, k)
+		m, n, ok := impl.Arrive(p, list, marks, k)
+		if ok != there || n != way || !equal(m, want) {
+			t.Fatalf("Arrive(%v, %v, %v, %d) = %v, %d, %v, want %v, %d, %v", p, list, marks, k, m, n, ok, want, way, there)
+		}
+	}
+	return is
 }
