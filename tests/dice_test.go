@@ -405,3 +405,49 @@ func (d *dice) mangledMarks(marks []impl.Mark, machines []impl.Machine) []impl.M
 	}
 	return out
 }
+
+// undo returns what could be an undo in a machine, or nearly: of a thread, a cell and a lock that may be there.
+func (d *dice) undo(m impl.Machine) impl.Undo {
+	u := impl.Undo{Who: d.below(len(m.Threads) + 1), Old: d.thread(5), Cell: -1, Lock: -1}
+	if d.below(2) == 0 {
+		u.Cell = d.below(9) - 1
+		u.Was = d.word()
+	}
+	if d.below(2) == 0 {
+		u.Lock = d.below(4) - 1
+		u.Held = d.below(5) - 1
+	}
+	u.Begun = d.below(3) == 0
+	u.Told = d.below(3) == 0
+	return u
+}
+
+// mangledUndo returns an undo in which at most one thing is another one.
+func (d *dice) mangledUndo(u impl.Undo) impl.Undo {
+	out := cloneUndo(u)
+	switch d.below(16) {
+	case 0:
+		out.Who = d.oneOf(fieldsNear())
+	case 1:
+		out.Cell = d.oneOf(fieldsNear())
+	case 2:
+		out.Was = d.oneOf(fieldsNear())
+	case 3:
+		out.Lock = d.oneOf(fieldsNear())
+	case 4:
+		out.Held = d.oneOf(fieldsNear())
+	case 5:
+		out.Begun = !out.Begun
+	case 6:
+		out.Told = !out.Told
+	case 7:
+		out.Old.At = d.oneOf(fieldsNear())
+	case 8:
+		out.Old.State = d.oneOf(fieldsNear())
+	case 9:
+		out.Old.Regs = d.mangled(out.Old.Regs)
+	case 10:
+		out.Old.Stack = d.mangled(out.Old.Stack)
+	}
+	return out
+}

@@ -688,3 +688,109 @@ func marksAsExpected(t *testing.T, p impl.Program, list []impl.Choice, marks []i
 	}
 	return is
 }
+
+func cloneUndo(u impl.Undo) impl.Undo {
+	u.Old = cloneThread(u.Old)
+	return u
+}
+
+func sameUndo(a impl.Undo, b impl.Undo) bool {
+	return a.Who == b.Who && equalThreads(a.Old, b.Old) && a.Cell == b.Cell && a.Was == b.Was &&
+		a.Lock == b.Lock && a.Held == b.Held && a.Begun == b.Begun && a.Told == b.Told
+}
+
+// undoExpected looks at what is another thing behind the choice; but for cells, as a store may leave one as it is.
+func undoExpected(p impl.Program, m impl.Machine, c impl.Choice) (impl.Undo, bool) {
+	next, ok := doExpected(p, m, c)
+	if !ok {
+		return impl.Undo{}, false
+	}
+	u := impl.Undo{Who: c.Who, Old: cloneThread(m.Threads[c.Who]), Cell: -1, Lock: -1}
+	u.Begun = len(next.Threads) > len(m.Threads)
+	u.Told = len(next.Told) > len(m.Told)
+	for k := range m.Locks {
+		if m.Locks[k] != next.Locks[k] {
+			u.Lock = k
+			u.Held = m.Locks[k]
+		}
+	}
+	if code, _ := instrExpected(p, m, c.Who); code.Op == impl.OpStore && c.Kind == impl.ChoiceStep {
+		u.Cell = (u.Old.Regs[code.B] + code.C) % 8
+		u.Was = m.Cells[u.Cell]
+	}
+	return u, true
+}
+
+// takenExpected writes into a copy of the machine, one after the other, what an undo tells.
+func takenExpected(m impl.Machine, u impl.Undo) (impl.Machine, bool) {
+	out := clone(m)
+	if u.Begun && len(out.Threads) == 0 || u.Told && len(out.Told) == 0 {
+		return impl.Machine{}, false
+	}
+	if u.Begun {
+		out.Threads = out.Threads[:len(out.Threads)-1]
+	}
+	if u.Told {
+		out.Told = out.Told[:len(out.Told)-1]
+	}
+	if !within([]int{u.Who}, 0, len(out.Threads)-1) || !within([]int{u.Cell}, -1, len(out.Cells)-1) || !within([]int{u.Lock}, -1, len(out.Locks)-1) {
+		return impl.Machine{}, false
+	}
+	out.Threads[u.Who] = cloneThread(u.Old)
+	if u.Cell != -1 {
+		out.Cells[u.Cell] = u.Was
+	}
+	if u.Lock != -1 {
+		out.Locks[u.Lock] = u.Held
+	}
+	return out, true
+}
+
+// undoAsExpected fails if what is needed to take back a choice is not what this test's own machine tells.
+func undoAsExpected(t *testing.T, p impl.Program, m impl.Machine, c impl.Choice) (impl.Undo, bool) {
+	t.Helper()
+	want, there := undoExpected(p, m, c)
+	got, ok := impl.UndoOf(p, m, c)
+	if ok != there || !sameUndo(got, want) {
+		t.Fatalf("UndoOf(%v, %v, %v)\n = %v, %v\nwant %v, %v", p, m, c, got, ok, want, there)
+	}
+	return got, ok
+}
+
+// takenAsExpected fails if an undo is not taken back as this test's own machine tells.
+func takenAsExpected(t *testing.T, m impl.Machine, u impl.Undo) (impl.Machine, bool) {
+	t.Helper()
+	want, there := takenExpected(m, u)
+	got, ok := impl.TakeBack(m, u)
+	if ok != there || !equal(got, want) {
+		t.Fatalf("TakeBack(%v, %v)\n = %v, %v\nwant %v, %v", m, u, got, ok, want, there)
+	}
+	return got, ok
+}
+
+// undosAsExpected fails if a row of choices is not taken back as this test's own machine tells; it returns whether it is a run.
+func undosAsExpected(t *testing.T, p impl.Program, list []impl.Choice) bool {
+	t.Helper()
+	machines := machinesExpected(p, list)
+	is := len(machines) == len(list)+1
+	undos := impl.UndosOf(p, list)
+	if is && len(undos) != len(list) || !is && len(undos) != 0 {
+		t.Fatalf("%v of %v has %d undos", list, p, len(undos))
+	}
+	for k, u := range undos {
+		if want, _ := undoExpected(p, machines[k], list[k]); !sameUndo(u, want) {
+			t.Fatalf("undo %d of %v of %v is %v, want %v", k, list, p, u, want)
+		}
+	}
+	for _, k := range []int{math.MinInt, -1, 0, 1, len(list) / 2, len(list) - 1, len(list), len(list) + 1, 300, 301, math.MaxInt} {
+		want := impl.Machine{}
+		there := is && k >= 0 && k <= len(list)
+		if there {
+			want = machines[k]
+		}
+		if m, ok := impl.BackFrom(p, list, k); ok != there || !equal(m, want) {
+			t.Fatalf("BackFrom(%v, %v, %d) = %v, %v, want %v, %v", p, list, k, m, ok, want, there)
+		}
+	}
+	return is
+}
