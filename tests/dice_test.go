@@ -451,3 +451,79 @@ func (d *dice) mangledUndo(u impl.Undo) impl.Undo {
 	}
 	return out
 }
+
+// look returns a part that is made of no other ones.
+func (d *dice) look() impl.Part {
+	kind := d.oneOf([]int{impl.PartNumber, impl.PartReg, impl.PartReg, impl.PartCell, impl.PartCell, impl.PartAt, impl.PartDeep, impl.PartState, impl.PartTold})
+	if kind == impl.PartNumber {
+		return impl.Part{A: d.oneOf([]int{0, 0, 1, 2, 5000, 9999, d.word()})}
+	}
+	tops := partTopsByKind()[kind]
+	return impl.Part{Kind: kind, A: d.below(tops[0]), B: d.below(tops[1])}
+}
+
+// when returns an expression of so many parts, of which the last one is mostly made of others.
+func (d *dice) when(many int) []impl.Part {
+	out := []impl.Part{}
+	for k := 0; k < many; k++ {
+		if k == 0 || d.below(5) < 2 && k < many-1 || d.below(8) == 0 {
+			out = append(out, d.look())
+			continue
+		}
+		x := impl.Part{Kind: impl.PartAdd + d.below(5), A: d.below(k), B: d.below(k)}
+		if x.Kind == impl.PartNot {
+			x.B = 0
+		}
+		out = append(out, x)
+	}
+	return out
+}
+
+func (d *dice) manyParts() int {
+	return d.oneOf([]int{1, 1, 2, 2, 3, 4, 5, 8, 9, 10, 12, 18, 19, 20})
+}
+
+// mangledWhen returns parts of which one is gone, is there twice, stands elsewhere, or is another one; or which are too many.
+func (d *dice) mangledWhen(list []impl.Part) []impl.Part {
+	out := append([]impl.Part{}, list...)
+	k := d.below(len(out))
+	other := d.below(len(out))
+	switch d.below(10) {
+	case 0:
+		return append(out[:k], out[k+1:]...)
+	case 1:
+		return append(out[:k+1], list[k:]...)
+	case 2:
+		out[k], out[other] = out[other], out[k]
+	case 3:
+		out[k].Kind = d.oneOf(append(fieldsNear(), 10, 11, 12))
+	case 4:
+		out[k].A = d.oneOf(append(fieldsNear(), k-1, k, k+1))
+	case 5:
+		out[k].B = d.oneOf(append(fieldsNear(), k-1, k, k+1))
+	case 6:
+		return append(out, make([]impl.Part, d.oneOf([]int{1, 20, 1000}))...)
+	case 7:
+		return append(out, make([]impl.Part, 20-len(out))...)
+	}
+	return out
+}
+
+// anyNumbers returns a row of numbers that is mostly none of a machine.
+func (d *dice) anyNumbers() []int {
+	out := []int{}
+	numbers := append(fieldsNear(), d.words(20)...)
+	for i := d.oneOf([]int{0, 1, 2, 4, 6, 8, 9, 999, 1000}); i > 0; i-- {
+		out = append(out, d.oneOf(numbers))
+	}
+	return out
+}
+
+// anyMachine returns what is mostly no machine of any program.
+func (d *dice) anyMachine() impl.Machine {
+	m := impl.Machine{Cells: d.anyNumbers(), Locks: d.anyNumbers(), Told: d.anyNumbers()}
+	for k := d.oneOf([]int{0, 1, 2, 4, 5, 20}); k > 0; k-- {
+		m.Threads = append(m.Threads, impl.Thread{At: d.oneOf(fieldsNear()), Regs: d.anyNumbers(), Stack: d.anyNumbers(), State: d.oneOf(fieldsNear())})
+	}
+	return m
+}

@@ -794,3 +794,152 @@ func undosAsExpected(t *testing.T, p impl.Program, list []impl.Choice) bool {
 	}
 	return is
 }
+
+// partTopsByKind returns for each kind of part what A and B are less than, and -1 for an index of a part ahead.
+func partTopsByKind() [][2]int {
+	return [][2]int{{10000, 1}, {4, 4}, {8, 1}, {4, 1}, {4, 1}, {4, 1}, {1, 1}, {-1, -1}, {-1, -1}, {-1, -1}, {-1, -1}, {-1, 1}}
+}
+
+func whenExpected(list []impl.Part) bool {
+	tops := partTopsByKind()
+	for k, x := range list {
+		if x.Kind < 0 || x.Kind >= len(tops) {
+			return false
+		}
+		for i, n := range []int{x.A, x.B} {
+			top := tops[x.Kind][i]
+			if top == -1 {
+				top = k
+			}
+			if n < 0 || n >= top {
+				return false
+			}
+		}
+	}
+	return len(list) > 0 && len(list) < 21
+}
+
+// lookedExpected returns what a machine has for a part that is made of no other ones.
+func lookedExpected(m impl.Machine, x impl.Part) int {
+	n := 0
+	switch x.Kind {
+	case impl.PartNumber:
+		n = x.A
+	case impl.PartCell:
+		if x.A < len(m.Cells) {
+			n = m.Cells[x.A]
+		}
+	case impl.PartTold:
+		n = len(m.Told)
+	default:
+		if x.A < len(m.Threads) {
+			u := m.Threads[x.A]
+			regs := append(cloneInts(u.Regs), 0, 0, 0, 0)
+			n = map[int]int{impl.PartReg: regs[x.B], impl.PartAt: u.At, impl.PartDeep: len(u.Stack), impl.PartState: u.State}[x.Kind]
+		}
+	}
+	if n < 0 || n > 9999 {
+		return 0
+	}
+	return n
+}
+
+// partExpected comes to the number of a part from behind, by those parts alone that it is made of; known has those that were looked at.
+func partExpected(m impl.Machine, list []impl.Part, k int, known map[int]int) int {
+	if n, ok := known[k]; ok {
+		return n
+	}
+	x := list[k]
+	n := 0
+	if x.Kind < impl.PartAdd {
+		n = lookedExpected(m, x)
+	} else {
+		a := partExpected(m, list, x.A, known)
+		b := partExpected(m, list, x.B, known)
+		n = map[int]int{
+			impl.PartAdd:  (a + b) % 10000,
+			impl.PartLess: numberOf(a < b),
+			impl.PartSame: numberOf(a == b),
+			impl.PartAnd:  numberOf(a > 0 && b > 0),
+			impl.PartNot:  numberOf(a == 0),
+		}[x.Kind]
+	}
+	known[k] = n
+	return n
+}
+
+func numberOf(so bool) int {
+	if so {
+		return 1
+	}
+	return 0
+}
+
+func valueExpected(m impl.Machine, list []impl.Part) int {
+	if !whenExpected(list) {
+		return -1
+	}
+	return partExpected(m, list, len(list)-1, map[int]int{})
+}
+
+// bothExpected leads each index of the second expression to where its part stands in both.
+func bothExpected(a []impl.Part, b []impl.Part) []impl.Part {
+	if !whenExpected(a) || !whenExpected(b) || len(a)+len(b) > 19 {
+		return nil
+	}
+	out := append([]impl.Part{}, a...)
+	for _, x := range b {
+		if x.Kind >= impl.PartAdd {
+			x.A += len(a)
+		}
+		if x.Kind >= impl.PartAdd && x.Kind != impl.PartNot {
+			x.B += len(a)
+		}
+		out = append(out, x)
+	}
+	return append(out, impl.Part{Kind: impl.PartAnd, A: len(a) - 1, B: len(a) + len(b) - 1})
+}
+
+// contraryExpected puts behind an expression that its last part is 0.
+func contraryExpected(list []impl.Part) []impl.Part {
+	if !whenExpected(list) || len(list) > 19 {
+		return nil
+	}
+	return append(append([]impl.Part{}, list...), impl.Part{Kind: impl.PartNot, A: len(list) - 1})
+}
+
+// whenAsExpected fails if parts are not looked at in a machine as this test's own tell; it returns whether they are an expression.
+func whenAsExpected(t *testing.T, m impl.Machine, list []impl.Part) bool {
+	t.Helper()
+	is := whenExpected(list)
+	if impl.WhenOk(list) != is {
+		t.Fatalf("%v is an expression: %v", list, !is)
+	}
+	want := valueExpected(m, list)
+	if got := impl.WhenValue(m, list); got != want {
+		t.Fatalf("the number of %v in %v is %d, want %d", list, m, got, want)
+	}
+	if impl.Holds(m, list) != (want > 0) {
+		t.Fatalf("%v holds in %v: %v", list, m, want <= 0)
+	}
+	if got, want := impl.WhenNot(list), contraryExpected(list); !slices.Equal(got, want) {
+		t.Fatalf("the contrary of %v is %v, want %v", list, got, want)
+	}
+	return is
+}
+
+// truthsAsExpected fails if there are other truths of a row of choices than this test's own; it returns whether there are any.
+func truthsAsExpected(t *testing.T, p impl.Program, list []impl.Choice, when []impl.Part) bool {
+	t.Helper()
+	machines := machinesExpected(p, list)
+	want := []bool{}
+	if whenExpected(when) && len(machines) == len(list)+1 {
+		for _, m := range machines {
+			want = append(want, valueExpected(m, when) > 0)
+		}
+	}
+	if got := impl.Truths(p, list, when); !slices.Equal(got, want) {
+		t.Fatalf("%v of %v of %v has the truths %v, want %v", when, list, p, got, want)
+	}
+	return len(want) > 0
+}
