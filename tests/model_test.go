@@ -928,18 +928,130 @@ func whenAsExpected(t *testing.T, m impl.Machine, list []impl.Part) bool {
 	return is
 }
 
+// truthsExpected returns at which places of a run an expression holds; none of what is no run, and for what is no expression.
+func truthsExpected(p impl.Program, list []impl.Choice, when []impl.Part) []bool {
+	machines := machinesExpected(p, list)
+	out := []bool{}
+	if whenExpected(when) && len(machines) == len(list)+1 {
+		for _, m := range machines {
+			out = append(out, valueExpected(m, when) > 0)
+		}
+	}
+	return out
+}
+
 // truthsAsExpected fails if there are other truths of a row of choices than this test's own; it returns whether there are any.
 func truthsAsExpected(t *testing.T, p impl.Program, list []impl.Choice, when []impl.Part) bool {
 	t.Helper()
-	machines := machinesExpected(p, list)
-	want := []bool{}
-	if whenExpected(when) && len(machines) == len(list)+1 {
-		for _, m := range machines {
-			want = append(want, valueExpected(m, when) > 0)
-		}
-	}
+	want := truthsExpected(p, list, when)
 	if got := impl.Truths(p, list, when); !slices.Equal(got, want) {
 		t.Fatalf("%v of %v of %v has the truths %v, want %v", when, list, p, got, want)
 	}
 	return len(want) > 0
+}
+
+// placesExpected, and those below it, go by the truths of a run alone.
+func placesExpected(truths []bool) []int {
+	out := []int{}
+	for k, so := range truths {
+		if so {
+			out = append(out, k)
+		}
+	}
+	return out
+}
+
+func turnsExpected(truths []bool) []int {
+	out := []int{}
+	for k, so := range truths {
+		if so != truths[max(k-1, 0)] {
+			out = append(out, k)
+		}
+	}
+	return out
+}
+
+func countExpected(truths []bool, at int, n int) (int, bool) {
+	if at < 0 || at >= len(truths) || n < 1 {
+		return 0, false
+	}
+	behind := placesExpected(truths[at+1:])
+	if n > len(behind) {
+		return len(truths) - 1, false
+	}
+	return at + 1 + behind[n-1], true
+}
+
+func backExpected(truths []bool, at int) (int, bool) {
+	if at < 0 || at >= len(truths) {
+		return 0, false
+	}
+	ahead := placesExpected(truths[:at])
+	if len(ahead) == 0 {
+		return 0, false
+	}
+	return ahead[len(ahead)-1], true
+}
+
+// turnExpected looks in the first half, and in the second one if there is no turn to be found in the first.
+func turnExpected(truths []bool, low int, high int) (int, int, bool) {
+	if low < 0 || low >= high || high >= len(truths) || truths[low] == truths[high] {
+		return 0, 0, false
+	}
+	if low+1 == high {
+		return high, 0, true
+	}
+	half := low + (high-low)/2
+	place, looks, ok := turnExpected(truths, low, half)
+	if !ok {
+		place, looks, _ = turnExpected(truths, half, high)
+	}
+	return place, looks + 1, true
+}
+
+// soughtAsExpected fails if from a place one comes elsewhere than the truths of a run tell.
+func soughtAsExpected(t *testing.T, p impl.Program, list []impl.Choice, when []impl.Part, truths []bool, at int) {
+	t.Helper()
+	want, there := countExpected(truths, at, 1)
+	if k, ok := impl.NextWhen(p, list, when, at); k != want || ok != there {
+		t.Fatalf("NextWhen(%v, %v, %v, %d) = %d, %v, want %d, %v", p, list, when, at, k, ok, want, there)
+	}
+	want, there = backExpected(truths, at)
+	if k, ok := impl.BackWhen(p, list, when, at); k != want || ok != there {
+		t.Fatalf("BackWhen(%v, %v, %v, %d) = %d, %v, want %d, %v", p, list, when, at, k, ok, want, there)
+	}
+	for _, n := range []int{math.MinInt, -1, 0, 1, 2, 3, len(placesExpected(truths)), math.MaxInt} {
+		want, there = countExpected(truths, at, n)
+		if k, ok := impl.CountNext(p, list, when, at, n); k != want || ok != there {
+			t.Fatalf("CountNext(%v, %v, %v, %d, %d) = %d, %v, want %d, %v", p, list, when, at, n, k, ok, want, there)
+		}
+	}
+}
+
+// turnAsExpected fails if between two places another turn is found than the truths of a run tell, or by more or fewer looks; it returns whether there is one.
+func turnAsExpected(t *testing.T, p impl.Program, list []impl.Choice, when []impl.Part, truths []bool, low int, high int) bool {
+	t.Helper()
+	want, looks, there := turnExpected(truths, low, high)
+	k, n, ok := impl.TurnByHalves(p, list, when, low, high)
+	if k != want || n != looks || ok != there {
+		t.Fatalf("TurnByHalves(%v, %v, %v, %d, %d) = %d, %d, %v, want %d, %d, %v", p, list, when, low, high, k, n, ok, want, looks, there)
+	}
+	return there
+}
+
+// allSoughtAsExpected fails if of all that is sought in a run anything is elsewhere than its truths tell; it looks at all places that are told.
+func allSoughtAsExpected(t *testing.T, p impl.Program, list []impl.Choice, when []impl.Part, truths []bool, places []int) {
+	t.Helper()
+	if got, want := impl.PlacesWhen(p, list, when), placesExpected(truths); !slices.Equal(got, want) {
+		t.Fatalf("%v holds in %v of %v at %v, want %v", when, list, p, got, want)
+	}
+	if got, want := impl.TurnsWhen(p, list, when), turnsExpected(truths); !slices.Equal(got, want) {
+		t.Fatalf("the turns of %v in %v of %v are %v, want %v", when, list, p, got, want)
+	}
+	for _, at := range places {
+		soughtAsExpected(t, p, list, when, truths, at)
+		for _, high := range places {
+			turnAsExpected(t, p, list, when, truths, at, high)
+		}
+	}
 }
